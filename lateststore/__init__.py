@@ -1,0 +1,1 @@
+"""What a power cut can leave of stores, flushes and fences."""

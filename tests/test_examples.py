@@ -1,0 +1,66 @@
+"""The examples of the document, each as it stands there."""
+
+import unittest
+
+from lateststore.errors import BadCount, NoImage, NoPlace, NoWord
+from lateststore.images import boxes, contents, count, cuts, image_at, place_of
+from lateststore.likeness import differ, needless, trimmed
+from lateststore.programs import Fence, Flush, Memory, Program, Store, made, sure
+from tests.helper import bare, safe
+
+
+class ExamplesTest(unittest.TestCase):
+    def test_memory(self):
+        with self.assertRaises(BadCount) as caught:
+            Memory([2, 5])
+        self.assertEqual((caught.exception.what, caught.exception.count), ("words", 5))
+
+    def test_no_word(self):
+        with self.assertRaises(NoWord) as caught:
+            Program(Memory([2]), [Store(0, 2, 1)])
+        self.assertEqual(caught.exception.word, 2)
+
+    def test_made_and_sure(self):
+        self.assertEqual((made(safe(), 4), sure(safe(), 2), sure(safe(), 3)), ((1, 1), (0, 0), (1, 0)))
+
+    def test_boxes(self):
+        self.assertEqual([(box.time, box.low, box.high) for box in boxes(bare())],
+                         [(0, (0, 0), (0, 0)), (1, (1, 0), (1, 0)), (2, (0, 1), (1, 1))])
+
+    def test_count(self):
+        self.assertEqual((count(bare()), count(safe())), (4, 3))
+
+    def test_places(self):
+        self.assertEqual((image_at(bare(), 2), place_of(bare(), (1, 1))), ((0, 1), 3))
+
+    def test_no_place(self):
+        with self.assertRaises(NoPlace) as caught:
+            image_at(bare(), 4)
+        self.assertEqual(caught.exception.place, 4)
+
+    def test_cuts(self):
+        self.assertEqual((cuts(bare(), (1, 0)), cuts(safe(), (1, 0)), cuts(safe(), (0, 1))), ((1, 2), (1, 4), None))
+
+    def test_no_image(self):
+        with self.assertRaises(NoImage):
+            cuts(bare(), (2, 0))
+
+    def test_contents(self):
+        program = Program(Memory([2]), [Store(0, 0, 5), Store(0, 1, 6)])
+        self.assertEqual((contents(program, (1,)), contents(program, (2,))), (((5, 0),), ((5, 6),)))
+
+    def test_differ(self):
+        found = differ(bare(), safe())
+        self.assertEqual((found.image, found.is_first), ((0, 1), True))
+
+    def test_needless(self):
+        program = Program(Memory([1, 1]), [Store(0, 0, 1), Flush(0), Flush(0), Fence(), Store(1, 0, 1)])
+        self.assertEqual(needless(program), [1, 2])
+
+    def test_trimmed(self):
+        program = Program(Memory([1, 1]), [Store(0, 0, 1), Fence(), Flush(0), Store(1, 0, 1)])
+        self.assertEqual(len(trimmed(program).commands), 2)
+
+
+if __name__ == "__main__":
+    unittest.main()
