@@ -113,13 +113,28 @@ def place_of(program, image):
     return None
 
 
+def possible_images(program):
+    """Return the list of all possible images in their order; only for programs that have few."""
+    return [image_in_box(box, place) for box in boxes(program) for place in range(size_of(box))]
+
+
+def as_contents(rows):
+    """Return the words of all lines as a tuple of tuples."""
+    return tuple([tuple(row) for row in rows])
+
+
+def written(words, listed, image):
+    """Return the contents after the stores of an image, of a list of stores, on top of words."""
+    rows = [list(row) for row in words]
+    left = list(image)
+    for store in listed:
+        if left[store.line] > 0:
+            left[store.line] -= 1
+            rows[store.line][store.word] = store.number
+    return as_contents(rows)
+
+
 def contents(program, image):
     """Return the words of an image, a tuple for each line."""
     check_image(program, image)
-    words = [[0] * size for size in program.memory.sizes]
-    left = list(image)
-    for store in stores(program):
-        if left[store.line] > 0:
-            left[store.line] -= 1
-            words[store.line][store.word] = store.number
-    return tuple([tuple(row) for row in words])
+    return written([[0] * size for size in program.memory.sizes], stores(program), image)

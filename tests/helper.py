@@ -135,3 +135,27 @@ def plain_latest(program, image):
 def plain_order(program):
     """The list of all possible images in their order."""
     return sorted(plain_possible(program), key=lambda image: (plain_latest(program, image), image))
+
+
+def plain_contents(program, image):
+    """The last durable store to each word, line by line."""
+    words = [[0] * size for size in program.memory.sizes]
+    for line, many in enumerate(image):
+        of_line = [c for c in program.commands if isinstance(c, Store) and c.line == line]
+        for store in of_line[:many]:
+            words[line][store.word] = store.number
+    return tuple(map(tuple, words))
+
+
+def with_line_numbers(program):
+    """All stores as pairs: the line, and the number on the line, counted from 1."""
+    lines = [c.line for c in program.commands if isinstance(c, Store)]
+    return [(line, lines[:at + 1].count(line)) for at, line in enumerate(lines)]
+
+
+def plain_breach(program, order):
+    """The smallest possible image with the second store of an order and without the first one."""
+    numbered = with_line_numbers(program)
+    (first_line, first), (second_line, second) = (numbered[store] for store in order)
+    return min((image for image in plain_possible(program)
+                if image[second_line] >= second and image[first_line] < first), default=None)

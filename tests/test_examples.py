@@ -3,9 +3,13 @@
 import unittest
 
 from lateststore.errors import BadCount, NoImage, NoPlace, NoWord
+from lateststore.fencing import fenced
 from lateststore.images import boxes, contents, count, cuts, image_at, place_of
 from lateststore.likeness import differ, needless, trimmed
+from lateststore.orders import breach, orders
 from lateststore.programs import Fence, Flush, Memory, Program, Store, made, sure
+from lateststore.recoveries import Copy, Recovery, Step, check
+from lateststore.rules import Is, broken, find
 from tests.helper import bare, safe
 
 
@@ -60,6 +64,36 @@ class ExamplesTest(unittest.TestCase):
     def test_trimmed(self):
         program = Program(Memory([1, 1]), [Store(0, 0, 1), Fence(), Flush(0), Store(1, 0, 1)])
         self.assertEqual(len(trimmed(program).commands), 2)
+
+    def test_breach(self):
+        self.assertEqual((breach(bare(), (0, 1)), breach(safe(), (0, 1))), ((0, 1), None))
+
+    def test_orders(self):
+        self.assertEqual((orders(bare()), orders(safe())), ([], [(0, 1)]))
+
+    def test_fenced(self):
+        found = fenced(Memory([1, 1]), [Store(0, 0, 1), Store(1, 0, 1)], [(0, 1)])
+        self.assertEqual((len(found.result.commands), found.apart), (4, ((0, 1),)))
+
+    def test_never(self):
+        found = fenced(Memory([1, 1]), [Store(0, 0, 1), Store(1, 0, 1)], [(0, 1), (1, 0)])
+        self.assertEqual(found.order, (1, 0))
+
+    def test_find(self):
+        self.assertEqual((find(bare(), [Is(1, 0, [1])]), find(bare(), [Is(1, 0, [2, 3])])), ((0, 1), None))
+
+    def test_broken(self):
+        given, wanted = [Is(1, 0, [1])], [Is(0, 0, [1])]
+        self.assertEqual((broken(bare(), given, wanted), broken(safe(), given, wanted)), ((0, 1), None))
+
+    def test_check(self):
+        memory = Memory([1, 1, 1])
+        redo = Recovery(memory, [Step([Is(1, 0, [1])], [Copy(2, 0, 0, 0)])])
+        good = [((0,), (0,), (0,)), ((7,), (0,), (0,)), ((7,), (1,), (7,))]
+        found = check(Program(memory, [Store(0, 0, 7), Store(1, 0, 1)]), redo, good)
+        self.assertEqual((found.image, found.second, found.words), ((0, 1, 0), None, ((0,), (1,), (0,))))
+        fenced_program = Program(memory, [Store(0, 0, 7), Flush(0), Fence(), Store(1, 0, 1)])
+        self.assertIsNone(check(fenced_program, redo, good))
 
 
 if __name__ == "__main__":

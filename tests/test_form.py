@@ -5,7 +5,7 @@ import inspect
 import unittest
 from pathlib import Path
 
-from lateststore import errors, images, likeness, programs
+from lateststore import errors, fencing, images, likeness, orders, programs, recoveries, rules
 
 PACKAGE = Path(__file__).resolve().parent.parent / "lateststore"
 DOUBLE = ("__init__", "__eq__", "__add__", "__contains__")
@@ -24,13 +24,26 @@ INTERFACE = {
         "Parted": ["image", "is_first"], "differ": ["one", "other"], "needless": ["program"],
         "trimmed": ["program"],
     },
+    orders: {"breach": ["program", "order"], "orders": ["program"]},
+    fencing: {
+        "Fenced": ["result", "apart"], "Never": ["order"], "fenced": ["memory", "stores", "orders"],
+    },
+    rules: {
+        "Is": ["line", "word", "numbers"], "find": ["program", "conditions"],
+        "broken": ["program", "given", "wanted"],
+    },
+    recoveries: {
+        "Copy": ["line", "word", "from_line", "from_word"], "Step": ["conditions", "moves"],
+        "Recovery": ["memory", "steps"], "settle": ["recovery", "words"],
+        "Failed": ["image", "second", "words"], "check": ["program", "recovery", "good"],
+    },
 }
 
 
 class FormTest(unittest.TestCase):
     def files(self):
         found = sorted(PACKAGE.glob("*.py"))
-        self.assertGreaterEqual(len(found), 5)
+        self.assertGreaterEqual(len(found), 9)
         return [(path, path.read_bytes()) for path in found]
 
     def test_only_files_of_the_package(self):

@@ -5,8 +5,8 @@ import unittest
 from lateststore.errors import NoImage, NoPlace
 from lateststore.images import Box, boxes, contents, count, cuts, image_at, place_of
 from lateststore.programs import Fence, Flush, Memory, Program, Store
-from tests.helper import (Checks, all_images, bare, chained, drawn_programs, plain_latest, plain_order, plain_times, safe,
-                          short_programs)
+from tests.helper import (Checks, all_images, bare, chained, drawn_programs, plain_contents, plain_latest, plain_order,
+                          plain_times, safe, short_programs)
 
 
 def empty():
@@ -204,12 +204,7 @@ class PlainSearchTest(Checks):
     def test_contents(self):
         for program in drawn_programs(100, 3):
             for image in all_images(program):
-                words = [[0] * size for size in program.memory.sizes]
-                for line, many in enumerate(image):
-                    of_line = [c for c in program.commands if isinstance(c, Store) and c.line == line]
-                    for store in of_line[:many]:
-                        words[line][store.word] = store.number
-                self.assertEqual(contents(program, image), tuple(map(tuple, words)))
+                self.assertEqual(contents(program, image), plain_contents(program, image))
 
 
 if __name__ == "__main__":
