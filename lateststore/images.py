@@ -113,28 +113,44 @@ def place_of(program, image):
     return None
 
 
+def images_of(box):
+    """Return the list of all images of a box in their order."""
+    images = [()]
+    for low, high in zip(box.low, box.high):
+        images = [image + (number,) for image in images for number in range(low, high + 1)]
+    return images
+
+
 def possible_images(program):
     """Return the list of all possible images in their order; only for programs that have few."""
-    return [image_in_box(box, place) for box in boxes(program) for place in range(size_of(box))]
+    return [image for box in boxes(program) for image in images_of(box)]
 
 
-def as_contents(rows):
-    """Return the words of all lines as a tuple of tuples."""
-    return tuple([tuple(row) for row in rows])
+def after_store(row, store):
+    """Return the words of a line after a store to it."""
+    return row[:store.word] + (store.number,) + row[store.word + 1:]
 
 
-def written(words, listed, image):
-    """Return the contents after the stores of an image, of a list of stores, on top of words."""
-    rows = [list(row) for row in words]
-    left = list(image)
+def rows_after(words, listed):
+    """Return for each line the list of its words after each number of its stores, of a list of stores, from 0 on."""
+    found = [[row] for row in words]
     for store in listed:
-        if left[store.line] > 0:
-            left[store.line] -= 1
-            rows[store.line][store.word] = store.number
-    return as_contents(rows)
+        rows = found[store.line]
+        rows.append(after_store(rows[-1], store))
+    return found
+
+
+def rows_of_lines(program):
+    """Return for each line of a program the list of its words after each number of its stores, from 0 on."""
+    return rows_after([(0,) * size for size in program.memory.sizes], stores(program))
+
+
+def words_of(rows, image):
+    """Return the contents of an image, from the words of each line after each number of its stores."""
+    return tuple([states[number] for states, number in zip(rows, image)])
 
 
 def contents(program, image):
     """Return the words of an image, a tuple for each line."""
     check_image(program, image)
-    return written([[0] * size for size in program.memory.sizes], stores(program), image)
+    return words_of(rows_of_lines(program), image)

@@ -1,7 +1,7 @@
 """Recoveries after a cut, and whether they end well even if they are cut themselves."""
 
 from lateststore.errors import BadCount, OtherMemory, Wide
-from lateststore.images import as_contents, contents, count, possible_images, written
+from lateststore.images import after_store, count, possible_images, rows_after, rows_of_lines, words_of
 from lateststore.programs import Program, Store, check_word
 from lateststore.rules import check_conditions, is_met
 
@@ -60,6 +60,11 @@ class Failed:
                 and self.second == other.second and self.words == other.words)
 
 
+def as_contents(rows):
+    """Return the words of all lines as a tuple of tuples."""
+    return tuple([tuple(row) for row in rows])
+
+
 def check_move(memory, move):
     check_word(memory, move.line, move.word)
     if isinstance(move, Copy):
@@ -79,7 +84,7 @@ def check_steps(memory, steps):
 
 
 def check_shape(memory, words):
-    if tuple([len(row) for row in words]) != memory.sizes:
+    if tuple(map(len, words)) != memory.sizes:
         raise OtherMemory()
 
 
@@ -92,21 +97,21 @@ def as_store(move, words):
 
 def run(recovery, words):
     """Return the contents after all steps, and the list of the stores that they make."""
-    rows = [list(row) for row in words]
+    rows = list(words)
     done = []
     for step in recovery.steps:
         if all([is_met(condition, rows[condition.line]) for condition in step.conditions]):
             for move in step.moves:
                 store = as_store(move, rows)
-                rows[store.line][store.word] = store.number
+                rows[store.line] = after_store(rows[store.line], store)
                 done.append(store)
-    return as_contents(rows), done
+    return tuple(rows), done
 
 
 def settle(recovery, words):
     """Return the contents after the steps of a recovery have been done in order."""
     check_shape(recovery.memory, words)
-    end, _ = run(recovery, words)
+    end, _ = run(recovery, as_contents(words))
     return end
 
 
@@ -115,8 +120,12 @@ def bad_end(recovery, words, allowed):
     end, done = run(recovery, words)
     if end not in allowed:
         return None, end
+    # Without moves a cut leaves the words as they were, so the second run ends as the first one.
+    if not done:
+        return None
+    rows = rows_after(words, done)
     for second in possible_images(Program(recovery.memory, done)):
-        end, _ = run(recovery, written(words, done, second))
+        end, _ = run(recovery, words_of(rows, second))
         if end not in allowed:
             return second, end
     return None
@@ -131,9 +140,10 @@ def check(program, recovery, good):
     if count(program) > MOST_IMAGES:
         raise Wide(MOST_IMAGES + 1)
     allowed = {as_contents(words): True for words in good}
+    rows = rows_of_lines(program)
     tried = {}
     for image in possible_images(program):
-        start = contents(program, image)
+        start = words_of(rows, image)
         # A recovery only sees the contents, and different images may have equal ones.
         if start not in tried:
             tried[start] = True

@@ -1,7 +1,7 @@
 """Conditions on words, and the first possible images that meet them or break a rule."""
 
-from lateststore.images import boxes
-from lateststore.programs import check_word, stores
+from lateststore.images import boxes, rows_of_lines
+from lateststore.programs import check_word
 
 
 class Is:
@@ -25,16 +25,6 @@ def check_conditions(memory, conditions):
 def is_met(condition, row):
     """Return whether the words of the condition's line meet it."""
     return row[condition.word] in condition.numbers
-
-
-def rows_of_lines(program):
-    """Return for each line the list of its words after each number of its stores, from 0 on."""
-    found = [[(0,) * size] for size in program.memory.sizes]
-    for store in stores(program):
-        rows = found[store.line]
-        words = rows[-1]
-        rows.append(words[:store.word] + (store.number,) + words[store.word + 1:])
-    return found
 
 
 def fitting(program, conditions):

@@ -1,5 +1,6 @@
 """Points 13 and 14: Copy, Step, Recovery and settle, check with Failed."""
 
+import sys
 import unittest
 from random import Random
 
@@ -52,6 +53,22 @@ def plain_check(program, recovery, good):
         if words not in good:
             return image, second, words
     return None
+
+
+def calls_of(action, *given):
+    """How many functions and methods a call runs in all: a measure of its work that no other load changes."""
+    many = 0
+
+    def note(_, event, __):
+        nonlocal many
+        many += event in ("call", "c_call")
+
+    sys.setprofile(note)
+    try:
+        action(*given)
+    finally:
+        sys.setprofile(None)
+    return many
 
 
 def fields(found):
@@ -295,6 +312,38 @@ class CheckTest(Checks):
         self.refused(Wide, {"count": 301}, check, self.wide(6, 42), nothing, good)
         self.refused(Wide, {"count": 301}, check, self.wide(100, 100), nothing, good)
         self.refused(Wide, {"count": 301}, check, chained(33), Recovery(Memory([1] * 6), []), [])
+
+    def numbered(self, first, second):
+        """A program of numbered stores to two lines, its contents in their order, and a recovery without steps."""
+        program = Program(Memory([1, 1]), [Store(0, 0, at + 1) for at in range(first)]
+                          + [Store(1, 0, at + 1) for at in range(second)])
+        # Without flushes and fences the boxes of the first line come before those of the second one.
+        images = [(a, 0) for a in range(first + 1)] + [(a, b) for b in range(1, second + 1) for a in range(first + 1)]
+        return program, [((a,), (b,)) for a, b in images], Recovery(Memory([1, 1]), [])
+
+    def test_three_hundred_images(self):
+        program, good, nothing = self.numbered(3, 74)
+        self.assertEqual((count(program), len(good)), (300, 300))
+        self.assertIsNone(check(program, nothing, good))
+        self.same(check(program, nothing, good[:1]), Failed((1, 0), None, ((1,), (0,))))
+        self.same(check(program, nothing, good[:-1]), Failed((3, 74), None, ((3,), (74,))))
+        wider, _, _ = self.numbered(3, 75)
+        self.assertEqual(count(wider), 304)
+        self.refused(Wide, {"count": 301}, check, wider, nothing, good)
+
+    def test_the_first_contents_that_are_missing(self):
+        for first, second in ((3, 74), (74, 3), (17, 15), (15, 17), (199, 0), (0, 200)):
+            program, good, nothing = self.numbered(first, second)
+            self.assertIsNone(check(program, nothing, good))
+            for at, ((a,), (b,)) in enumerate(good):
+                self.same(check(program, nothing, good[:at] + good[at + 1:]), Failed((a, b), None, good[at]))
+
+    def test_the_work_for_three_hundred_images(self):
+        for first, second in ((3, 74), (74, 3), (17, 15)):
+            program, good, nothing = self.numbered(first, second)
+            for allowed in (good, good[:1], good[:-1]):
+                # A few calls for each image: no image goes through the whole program again.
+                self.assertLess(calls_of(check, program, nothing, allowed), 20 * len(good))
 
     def test_other_memories_come_before_wide(self):
         self.refused(OtherMemory, {}, check, self.wide(6, 42), Recovery(Memory([1]), []), [])
