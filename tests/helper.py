@@ -5,6 +5,7 @@ from itertools import product
 from random import Random
 
 from lateststore.programs import Fence, Flush, Memory, Program, Store
+from lateststore.rules import Is
 
 
 class Checks(unittest.TestCase):
@@ -159,3 +160,24 @@ def plain_breach(program, order):
     (first_line, first), (second_line, second) = (numbered[store] for store in order)
     return min((image for image in plain_possible(program)
                 if image[second_line] >= second and image[first_line] < first), default=None)
+
+
+def meets(words, conditions):
+    return all(words[condition.line][condition.word] in condition.numbers for condition in conditions)
+
+
+def plain_broken(program, given, wanted):
+    for image in plain_order(program):
+        words = plain_contents(program, image)
+        if meets(words, given) and not meets(words, wanted):
+            return image
+    return None
+
+
+def drawn_conditions(drawn, sizes, most):
+    found = []
+    for _ in range(drawn.randrange(most + 1)):
+        line = drawn.randrange(len(sizes))
+        numbers = [drawn.randrange(-2, 3) for _ in range(drawn.randrange(1, 4))]
+        found.append(Is(line, drawn.randrange(sizes[line]), numbers))
+    return found

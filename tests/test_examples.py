@@ -2,13 +2,17 @@
 
 import unittest
 
-from lateststore.errors import BadCount, NoImage, NoPlace, NoWord
+from lateststore.book import Book
+from lateststore.desk import Desk
+from lateststore.errors import BadCount, BadText, Empty, NoImage, NoPlace, NoWord
 from lateststore.fencing import fenced
 from lateststore.images import boxes, contents, count, cuts, image_at, place_of
 from lateststore.likeness import differ, needless, trimmed
 from lateststore.orders import breach, orders
 from lateststore.programs import Fence, Flush, Memory, Program, Store, made, sure
+from lateststore.programtexts import condition_text, program_text, read_condition, read_program
 from lateststore.recoveries import Copy, Recovery, Step, check
+from lateststore.rounds import count_repeated
 from lateststore.rules import Is, broken, find
 from tests.helper import bare, safe
 
@@ -94,6 +98,47 @@ class ExamplesTest(unittest.TestCase):
         self.assertEqual((found.image, found.second, found.words), ((0, 1, 0), None, ((0,), (1,), (0,))))
         fenced_program = Program(memory, [Store(0, 0, 7), Flush(0), Fence(), Store(1, 0, 1)])
         self.assertIsNone(check(fenced_program, redo, good))
+
+    def test_count_repeated(self):
+        block = [Store(0, 0, 1), Store(1, 0, 1)]
+        self.assertEqual((count_repeated(Memory([1, 1]), [], block, [], 1000),
+                          count_repeated(Memory([1, 1]), [], block, [], 0)), (1002001, 1))
+
+    def test_count_repeated_with_fences(self):
+        self.assertEqual(count_repeated(Memory([1, 1]), [], [Store(0, 0, 1), Flush(0), Fence()], [], 10 ** 30),
+                         1000000000000000000000000000001)
+
+    def test_book(self):
+        book = Book(Memory([1, 1]))
+        book.add(Store(0, 0, 1))
+        book.add(Store(1, 0, 1))
+        book.rule('a', [Is(1, 0, [1])], [Is(0, 0, [1])])
+        self.assertEqual((book.state('a'), book.many()), ((0, 1), 3))
+
+    def test_empty_book(self):
+        with self.assertRaises(Empty):
+            Book(Memory([1])).take()
+
+    def test_program_text(self):
+        self.assertEqual(program_text(safe()), 'store 0 0 1, flush 0, fence, store 1 0 1')
+
+    def test_bad_text(self):
+        with self.assertRaises(BadText) as caught:
+            read_program(Memory([1]), 'store 0 0 1, flush')
+        self.assertEqual(caught.exception.place, 1)
+
+    def test_condition_text(self):
+        self.assertEqual(condition_text(read_condition('1.0=3/-1/3')), '1.0=-1/3')
+
+    def test_desk(self):
+        desk = Desk(Memory([1, 1]))
+        desk.tell('add store 0 0 1')
+        desk.tell('add store 1 0 1')
+        self.assertEqual(desk.tell('holds 0 1'), ['no 0 1'])
+
+    def test_empty_desk(self):
+        desk = Desk(Memory([1]))
+        self.assertEqual(desk.tell('take'), ['refused empty'])
 
 
 if __name__ == "__main__":

@@ -5,7 +5,8 @@ import inspect
 import unittest
 from pathlib import Path
 
-from lateststore import errors, fencing, images, likeness, orders, programs, recoveries, rules
+from lateststore import (book, desk, errors, fencing, images, likeness, orders, programs, programtexts, recoveries, rounds,
+                         rules)
 
 PACKAGE = Path(__file__).resolve().parent.parent / "lateststore"
 DOUBLE = ("__init__", "__eq__", "__add__", "__contains__")
@@ -37,13 +38,27 @@ INTERFACE = {
         "Recovery": ["memory", "steps"], "settle": ["recovery", "words"],
         "Failed": ["image", "second", "words"], "check": ["program", "recovery", "good"],
     },
+    rounds: {"count_repeated": ["memory", "head", "block", "tail", "rounds"]},
+    book: {"Book": ["memory"]},
+    programtexts: {
+        "program_text": ["program"], "read_program": ["memory", "text"], "condition_text": ["condition"],
+        "read_condition": ["text"],
+    },
+    desk: {"Desk": ["memory"]},
+}
+METHODS = {
+    book.Book: {
+        "add": ["command"], "take": [], "program": [], "rule": ["name", "given", "wanted"], "drop": ["name"], "names": [],
+        "state": ["name"], "many": [], "back": [],
+    },
+    desk.Desk: {"tell": ["row"]},
 }
 
 
 class FormTest(unittest.TestCase):
     def files(self):
         found = sorted(PACKAGE.glob("*.py"))
-        self.assertGreaterEqual(len(found), 9)
+        self.assertGreaterEqual(len(found), 13)
         return [(path, path.read_bytes()) for path in found]
 
     def test_only_files_of_the_package(self):
@@ -83,6 +98,11 @@ class FormTest(unittest.TestCase):
                 if name != "Fence":
                     self.assertEqual(list(inspect.signature(found).parameters), parameters, name)
         self.assertEqual(vars(errors)["StoreError"].__module__, "lateststore.errors")
+
+    def test_methods(self):
+        for kind, listed in METHODS.items():
+            for name, parameters in listed.items():
+                self.assertEqual(list(inspect.signature(vars(kind)[name]).parameters), ["self", *parameters], name)
 
 
 if __name__ == "__main__":

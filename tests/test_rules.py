@@ -6,11 +6,8 @@ from random import Random
 from lateststore.errors import NoLine, NoWord
 from lateststore.programs import Fence, Flush, Memory, Program, Store
 from lateststore.rules import Is, broken, find
-from tests.helper import Checks, bare, chained, drawn_programs, plain_contents, plain_order, safe, short_programs
-
-
-def meets(words, conditions):
-    return all(words[condition.line][condition.word] in condition.numbers for condition in conditions)
+from tests.helper import (Checks, bare, chained, drawn_conditions, drawn_programs, meets, plain_broken, plain_contents,
+                          plain_order, safe, short_programs)
 
 
 def plain_find(program, conditions):
@@ -18,23 +15,6 @@ def plain_find(program, conditions):
         if meets(plain_contents(program, image), conditions):
             return image
     return None
-
-
-def plain_broken(program, given, wanted):
-    for image in plain_order(program):
-        words = plain_contents(program, image)
-        if meets(words, given) and not meets(words, wanted):
-            return image
-    return None
-
-
-def drawn_conditions(drawn, sizes, most):
-    found = []
-    for _ in range(drawn.randrange(most + 1)):
-        line = drawn.randrange(len(sizes))
-        numbers = [drawn.randrange(-2, 3) for _ in range(drawn.randrange(1, 4))]
-        found.append(Is(line, drawn.randrange(sizes[line]), numbers))
-    return found
 
 
 class IsTest(Checks):
